@@ -1,0 +1,1 @@
+"""Questions put to tables; the calls stand in askedtables.questions."""

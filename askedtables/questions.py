@@ -1,4 +1,4 @@
-"""Questions put to tables: what their answers are, and how many ways they have.
+"""Questions put to tables: their answers, their ways, and whether one's answers are always among another's.
 
 A choice gives some names a value each. It is kept as one whole number, four
 bits for each name, so that cutting it down to fewer names is a single "&".
@@ -12,6 +12,7 @@ MOST_HEADS = 4
 MOST_PARTS = 10
 HIGHEST_NAME = 7
 HIGHEST_VALUE = 15
+MOST_QUESTIONS = 8
 # A mask of values has bit v for value v.
 ALL_VALUES = 65535
 
@@ -19,7 +20,11 @@ ALL_VALUES = 65535
 HEADS_AT = 2
 PARTS_AT = 6
 
+# What stands where there is nothing to tell.
+NOTHING = 255
+
 NOT_AS_TOLD = -2
+OTHER_HEADS = -3
 MORE_THAN_MOST = -1
 
 
@@ -47,6 +52,38 @@ def cq_ways(n, q, rows):
         return [NOT_AS_TOLD]
     counts = count_ways(question[1], table_rows, 0)
     return [0, counts.get(0, 0)]
+
+
+def cq_within(q, p):
+    """1, then the first map of p into q, where each answer of q is always one of p; else 0; or a refusal."""
+    question = read_question(q)
+    wider = read_question(p)
+    if question is None or wider is None:
+        return [NOT_AS_TOLD]
+    if len(question[0]) != len(wider[0]):
+        return [OTHER_HEADS]
+    rank = first_map(wider, question)
+    if rank is None:
+        return [0]
+    told = [1] + [NOTHING] * (HIGHEST_NAME + 1)
+    for name in standing_names(wider[1]):
+        told[1 + name] = ranked_value(rank, name)
+    return told
+
+
+def cq_among(k, q, p):
+    """1 where each answer of q is always one of some of the k questions p; else 0; or a refusal."""
+    question = read_question(q)
+    if not 0 <= k <= MOST_QUESTIONS or question is None:
+        return [NOT_AS_TOLD]
+    wider = [read_question(numbers) for numbers in p]
+    if any([other is None for other in wider]):
+        return [NOT_AS_TOLD]
+    if any([len(other[0]) != len(question[0]) for other in wider]):
+        return [OTHER_HEADS]
+    # In q's own parts as rows, q's heads are an answer of q: that question of which they
+    # are an answer there has a map into q, and then holds all of q's answers by itself.
+    return [1 if any([first_map(other, question) is not None for other in wider]) else 0]
 
 
 def read_question(q):
@@ -93,36 +130,79 @@ def standing_names(parts):
     return sorted(standing)
 
 
-def count_ways(parts, rows, kept):
-    """For each choice of the kept names' values that some way makes, how many ways make it.
+def first_map(question, other):
+    """The rank of the first map of the question into the other one, or None where there is none.
 
-    The names are given values one after the other. What has been chosen for a name
-    is forgotten once no part needs it any more, and the ways that agree in all else
-    are counted together: a question may have too many ways to go through each.
+    A map gives each of the question's names a name, so that its parts become parts of
+    the other one, and its heads the other one's heads. So it is a way of the question
+    into the other one's parts as rows, with the heads' values told ahead.
     """
-    fits = [(bits_of(part[1]), fitting_choices(part, rows)) for part in parts]
+    fits = fits_of(question[1], other[1])
+    for head, image in zip(question[0], other[0]):
+        fits.append((bits_of([head]), [chosen(head, image)]))
+    ranks = {0: 0}
+    for name, limits, needed in steps_through(standing_names(question[1]), fits, 0):
+        ranks = rank_values(ranks, name, limits, needed)
+    return ranks.get(0)
+
+
+def rank_values(ranks, name, limits, needed):
+    """The least ranks after the name too is given each value within the limits, cut down to the needed names."""
+    grown = {}
+    for choice in ranks:
+        for value in values_within(limits, choice):
+            cut = (choice | chosen(name, value)) & needed
+            rank = ranks[choice] | ranked(name, value)
+            grown[cut] = min(rank, grown.get(cut, rank))
+    return grown
+
+
+def count_ways(parts, rows, kept):
+    """For each choice of the kept names' values that some way makes, how many ways make it."""
     counts = {0: 1}
-    done = 0
-    for name in cheapest_order(standing_names(parts), fits, kept):
-        own = bits_of([name])
-        limits = [(bits & done, values_beside(choices, bits & done, name)) for bits, choices in fits if bits & own]
-        done |= own
-        counts = give_values(counts, name, limits, still_needed(done, fits, kept))
+    for name, limits, needed in steps_through(standing_names(parts), fits_of(parts, rows), kept):
+        counts = count_values(counts, name, limits, needed)
     return counts
 
 
-def give_values(counts, name, limits, needed):
+def count_values(counts, name, limits, needed):
     """The counts after the name too is given each value within the limits, cut down to the needed names."""
     grown = {}
     for choice in counts:
-        allowed = ALL_VALUES
-        for known, values in limits:
-            allowed &= values.get(choice & known, 0)
-        for value in range(HIGHEST_VALUE + 1):
-            if allowed & (1 << value):
-                cut = (choice | chosen(name, value)) & needed
-                grown[cut] = grown.get(cut, 0) + counts[choice]
+        for value in values_within(limits, choice):
+            cut = (choice | chosen(name, value)) & needed
+            grown[cut] = grown.get(cut, 0) + counts[choice]
     return grown
+
+
+def steps_through(names, fits, kept):
+    """The steps that give the names values one after the other: the name, its limits, the names needed behind it.
+
+    What has been chosen for a name is forgotten once no part needs it any more, and
+    the ways that agree in all else are gone on with together: a question may have too
+    many ways to go through each.
+    """
+    steps = []
+    done = 0
+    for name in cheapest_order(names, fits, kept):
+        own = bits_of([name])
+        limits = [(bits & done, values_beside(choices, bits & done, name)) for bits, choices in fits if bits & own]
+        done |= own
+        steps.append((name, limits, still_needed(done, fits, kept)))
+    return steps
+
+
+def values_within(limits, choice):
+    """The values that all the limits allow beside the choice."""
+    allowed = ALL_VALUES
+    for known, values in limits:
+        allowed &= values.get(choice & known, 0)
+    return values_of(allowed)
+
+
+def values_of(allowed):
+    """The values in a mask of values."""
+    return [value for value in range(HIGHEST_VALUE + 1) if allowed & (1 << value)]
 
 
 def values_beside(choices, known, name):
@@ -132,6 +212,11 @@ def values_beside(choices, known, name):
         beside = choice & known
         values[beside] = values.get(beside, 0) | (1 << value_in(choice, name))
     return values
+
+
+def fits_of(parts, rows):
+    """For each part its names' bits, and the choices that fit it."""
+    return [(bits_of(part[1]), fitting_choices(part, rows)) for part in parts]
 
 
 def fitting_choices(part, rows):
@@ -175,7 +260,7 @@ def how_many_values(name, fits):
     for bits, choices in fits:
         if bits & bits_of([name]):
             allowed &= values_beside(choices, 0, name).get(0, 0)
-    return len([value for value in range(HIGHEST_VALUE + 1) if allowed & (1 << value)])
+    return len(values_of(allowed))
 
 
 def most_choices(needed, sized):
@@ -204,6 +289,16 @@ def chosen(name, value):
 def value_in(choice, name):
     """The value that the choice gives the name."""
     return (choice >> (4 * name)) & HIGHEST_VALUE
+
+
+def ranked(name, value):
+    """What the value adds to a rank: where two ways first differ, name by name, the lesser value ranks first."""
+    return chosen(HIGHEST_NAME - name, value)
+
+
+def ranked_value(rank, name):
+    """The value that the name has in the way of this rank."""
+    return value_in(rank, HIGHEST_NAME - name)
 
 
 def values_in(choice, names):

@@ -101,6 +101,30 @@ def slow_answers(heads, parts, rows):
     return sorted({tuple(way[head] for head in heads) for way in slow_ways(parts, rows)})
 
 
+def slow_maps(heads, parts, other_heads, other_parts):
+    """All maps of a question into another one, each as its row of eight, in order."""
+    maps = slow_ways(parts, other_parts)
+    maps = [way for way in maps if [way[head] for head in heads] == list(other_heads)]
+    return sorted([way.get(name, 255) for name in range(8)] for way in maps)
+
+
+def some_question(source, tables, names, most_parts, heads):
+    """Heads and parts of a question over these tables."""
+    parts = []
+    for count in range(source.randint(1, most_parts)):
+        table = source.choice(tables)
+        parts.append((table,) + tuple(source.randrange(names) for place in range(PLACES[table])))
+    standing = sorted({name for part in parts for name in part[1:]})
+    return [source.choice(standing) for count in range(heads)], parts
+
+
+def some_pair(source):
+    """Two questions with as many heads, alike enough for the one to be within the other now and then."""
+    tables = source.choice(((3,), (0, 3), (0, 3, 6), (5, 7), (1, 2, 4)))
+    heads = source.choice((0, 0, 1, 1, 2, 4))
+    return [some_question(source, tables, source.randint(1, 5), most_parts, heads) for most_parts in (8, 4)]
+
+
 def some_part(source, names):
     table = source.randrange(8)
     return (table,) + tuple(source.randrange(names) for place in range(PLACES[table]))

@@ -30,6 +30,8 @@ LEFT_OUT = (
 CALLS = {
     "cq_answers": ["n", "most", "q", "rows"],
     "cq_ways": ["n", "q", "rows"],
+    "cq_within": ["q", "p"],
+    "cq_among": ["k", "q", "p"],
 }
 
 

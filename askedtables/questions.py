@@ -1,4 +1,4 @@
-"""Questions put to tables: their answers, their ways, and whether one's answers are always among another's.
+"""Questions put to tables: their answers, their ways, what holds of their answers in all tables, their parts.
 
 A choice gives some names a value each. It is kept as one whole number, four
 bits for each name, so that cutting it down to fewer names is a single "&".
@@ -84,6 +84,38 @@ def cq_among(k, q, p):
     # In q's own parts as rows, q's heads are an answer of q: that question of which they
     # are an answer there has a map into q, and then holds all of q's answers by itself.
     return [1 if any([first_map(other, question) is not None for other in wider]) else 0]
+
+
+def cq_shows(q):
+    """How many parts q has, then these as rows, their names as values; or a refusal."""
+    question = read_question(q)
+    if question is None:
+        return [NOT_AS_TOLD]
+    told = [len(question[1])]
+    for part in question[1]:
+        told.extend(filled([part[0]] + part[1], 4, 0))
+    return filled(told, 1 + 4 * MOST_PARTS, 0)
+
+
+def cq_fewest(q):
+    """The mask of as few of q's parts as ask for the same as all of them; or a refusal."""
+    question = read_question(q)
+    if question is None:
+        return [NOT_AS_TOLD]
+    places = list(range(len(question[1])))
+    # Some parts ask for the same as all if all have a map into them. Where none of them can
+    # go any more they are as few as can be: two such choices of parts have maps into each
+    # other that make no two parts one. Of these the mask is least if the last parts go first.
+    for place in range(len(question[1]) - 1, -1, -1):
+        others = [other for other in places if other != place]
+        if first_map(question, (question[0], [question[1][other] for other in others])) is not None:
+            places = others
+    return [sum([1 << place for place in places])]
+
+
+def filled(numbers, length, behind):
+    """The numbers, with this one behind them as often as makes them so many."""
+    return numbers + [behind] * (length - len(numbers))
 
 
 def read_question(q):

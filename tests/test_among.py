@@ -122,7 +122,7 @@ class Edges(unittest.TestCase):
         q = with_number(question([0], [(3, 0, 1)]), 3, 1)
         p = with_number(question([0], [(3, 0, 1), (0, 0)]), 1, 1)
         self.assertEqual(cq_among(1, q, [p]), [1])
-        self.assertEqual(cq_among(1, with_number(question([0], [(3, 0, 1), (0, 0)]), 1, 1), [question([0], [(0, 0)])]), [0])
+        self.assertEqual(cq_among(1, p, [question([0], [(0, 0)])]), [0])
 
     def test_one_part_and_ten_parts(self):
         nine = [(0, 0)] * 9

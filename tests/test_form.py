@@ -32,6 +32,8 @@ CALLS = {
     "cq_ways": ["n", "q", "rows"],
     "cq_within": ["q", "p"],
     "cq_among": ["k", "q", "p"],
+    "cq_shows": ["q"],
+    "cq_fewest": ["q"],
 }
 
 

@@ -113,6 +113,59 @@ def cq_fewest(q):
     return [sum([1 << place for place in places])]
 
 
+def cq_tree(q):
+    """1, then for each of q's parts the one above it in the first tree that they make; else 0; or a refusal."""
+    question = read_question(q)
+    if question is None:
+        return [NOT_AS_TOLD]
+    names = [bits_of(part[1]) for part in question[1]]
+    # A tree may hang from any of its parts; hung from part 0, its row comes ahead of all the others.
+    waiting = [[0]]
+    while waiting:
+        above = waiting.pop()
+        if len(above) == len(names):
+            return [1] + filled(above, MOST_PARTS, NOTHING)
+        # What is put there last is taken first, and that is to be the least.
+        for upper in range(len(names) - 1, -1, -1):
+            if goes_up(above + [upper]) and tops_once(above + [upper], names):
+                waiting.append(above + [upper])
+    return [0]
+
+
+def cq_settled(n, q, rows):
+    """1 where each row that fits one of q's parts has one beside it for each other part; else 0; or a refusal."""
+    question = read_question(q)
+    table_rows = read_rows(n, rows)
+    if question is None or table_rows is None:
+        return [NOT_AS_TOLD]
+    fits = fits_of(question[1], table_rows)
+    for bits, choices in fits:
+        for other_bits, others in fits:
+            if set([choice & other_bits for choice in choices]) != set([choice & bits for choice in others]):
+                return [0]
+    return [1]
+
+
+def goes_up(above):
+    """Whether the last part told does not come back to itself on its way up to part 0; those ahead of it do not."""
+    last = len(above) - 1
+    part = above[last]
+    while 0 < part < last:
+        part = above[part]
+    return part != last
+
+
+def tops_once(above, names):
+    """Whether no name has two tops, parts that have it below none that has it: then its parts hang together."""
+    topped = 0
+    for part, upper in enumerate(above):
+        tops = names[part] if part == 0 else names[part] & ~names[upper]
+        if tops & topped:
+            return False
+        topped |= tops
+    return True
+
+
 def filled(numbers, length, behind):
     """The numbers, with this one behind them as often as makes them so many."""
     return numbers + [behind] * (length - len(numbers))

@@ -1,4 +1,6 @@
-"""What the tests share: telling questions and rows, and a slow answer to compare with."""
+"""What the tests share: telling questions and rows, and slow answers to compare with."""
+
+import itertools
 
 PLACES = (1, 1, 1, 2, 2, 2, 3, 3)
 
@@ -106,6 +108,58 @@ def slow_maps(heads, parts, other_heads, other_parts):
     maps = slow_ways(parts, other_parts)
     maps = [way for way in maps if [way[head] for head in heads] == list(other_heads)]
     return sorted([way.get(name, 255) for name in range(8)] for way in maps)
+
+
+def way_up(above, part):
+    """The parts from this one up to the root, or None where one never gets there."""
+    way = [part]
+    while above[part] != part:
+        part = above[part]
+        if part in way:
+            return None
+        way.append(part)
+    return way
+
+
+def way_between(up, other_up):
+    """The parts on the way between two, told by their ways up: only the lowest of those that both have is on it."""
+    both = [part for part in up if part in other_up]
+    return [part for part in up + other_up if part not in both] + both[:1]
+
+
+def makes_tree(parts, above):
+    """Whether the parts hang as a tree with these above them, by the words of the promise."""
+    ups = [way_up(above, part) for part in range(len(parts))]
+    if None in ups or len({up[-1] for up in ups}) != 1:
+        return False
+    for name in range(8):
+        having = [place for place, part in enumerate(parts) if name in part[1:]]
+        for part, other in itertools.combinations(having, 2):
+            if not set(way_between(ups[part], ups[other])) <= set(having):
+                return False
+    return True
+
+
+def slow_tree(parts):
+    """The first row of parts above that makes a tree, by trying each; None where none does."""
+    for above in itertools.product(range(len(parts)), repeat=len(parts)):
+        if makes_tree(parts, above):
+            return list(above)
+    return None
+
+
+def fitting(part, rows):
+    """What the rows that fit the part make of its names, each as a dict."""
+    return slow_ways([part], rows)
+
+
+def slow_settled(parts, rows):
+    for part, other in itertools.permutations(parts, 2):
+        shared = set(part[1:]) & set(other[1:])
+        for way in fitting(part, rows):
+            if not any(all(way[name] == beside[name] for name in shared) for beside in fitting(other, rows)):
+                return 0
+    return 1
 
 
 def some_question(source, tables, names, most_parts, heads):

@@ -4,6 +4,7 @@ import ast
 import builtins
 import inspect
 import pathlib
+import re
 import unittest
 
 from askedtables import questions
@@ -27,6 +28,13 @@ LEFT_OUT = (
     ast.GeneratorExp, ast.NamedExpr, ast.Starred, ast.Div, ast.AnnAssign,
 )
 
+LEFT_OUT_WORDS = (
+    "type typing typing_extensions enum Enum IntEnum StrEnum Flag IntFlag Generic Protocol ABC ABCMeta namedtuple "
+    "NamedTuple TypedDict TYPE_CHECKING abstractmethod"
+).split()
+
+WALKED_AT_ONCE = "zip enumerate reversed range items keys values".split()
+
 CALLS = {
     "cq_answers": ["n", "most", "q", "rows"],
     "cq_ways": ["n", "q", "rows"],
@@ -34,6 +42,8 @@ CALLS = {
     "cq_among": ["k", "q", "p"],
     "cq_shows": ["q"],
     "cq_fewest": ["q"],
+    "cq_tree": ["q"],
+    "cq_settled": ["n", "q", "rows"],
 }
 
 
@@ -78,6 +88,27 @@ class Form(unittest.TestCase):
                     self.assertFalse(hasattr(builtins, node.arg), node.lineno)
                 if isinstance(node, ast.Attribute):
                     self.assertIn(node.attr, METHODS, node.lineno)
+
+    def test_the_top_of_a_file_holds_defs_and_plain_values(self):
+        for text, tree in package_files():
+            self.assertIsInstance(ast.get_docstring(tree), str)
+            for node in tree.body[1:]:
+                self.assertIsInstance(node, (ast.FunctionDef, ast.Assign), node.lineno)
+                if isinstance(node, ast.Assign):
+                    self.assertNotIsInstance(ast.literal_eval(node.value), (list, dict), node.lineno)
+
+    def test_no_left_out_word_stands_in_a_file(self):
+        for text, tree in package_files():
+            self.assertEqual(set(re.findall(r"\w+", text)) & set(LEFT_OUT_WORDS), set())
+            self.assertIsNone(re.search("dataclass|overload|contextmanager", text))
+
+    def test_what_is_walked_at_once_is_not_kept(self):
+        for text, tree in package_files():
+            for node in ast.walk(tree):
+                if isinstance(node, (ast.Assign, ast.AugAssign, ast.Return)) and isinstance(node.value, ast.Call):
+                    called = node.value.func
+                    name = called.id if isinstance(called, ast.Name) else called.attr
+                    self.assertNotIn(name, WALKED_AT_ONCE + ["set", "frozenset"], node.lineno)
 
     def test_sizes_and_signs(self):
         for text, tree in package_files():
